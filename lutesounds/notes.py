@@ -1,0 +1,64 @@
+"""The notes of a piece on an instrument that it fits."""
+
+from lutesounds.intervals import ranks
+from lutesounds.refusals import Misfit
+
+RING_MOMENT = 0
+RING_BAR = 2
+
+
+class Note:
+    """A stop and what it sounds. When it ends depends on the way of ringing: end_of tells it."""
+
+    def __init__(self, begin, line, stop, interval):
+        self.begin = begin
+        self.line = line
+        self.course = stop[0]
+        self.fret = stop[1]
+        self.interval = interval
+
+
+def check_fit(instrument, lines):
+    """Misfit if a stop is none of the instrument's places."""
+    for number, line in enumerate(lines):
+        for stop in line.stops:
+            if not instrument.has_place(stop[0], stop[1]):
+                raise Misfit(number, stop[0])
+
+
+def count_notes(lines):
+    return sum([len(line.stops) for line in lines])
+
+
+def beginnings(lines):
+    """The unit at which each line begins, a bar where it stands, and behind them that at which the piece ends."""
+    unit = 0
+    units = [0]
+    for line in lines:
+        unit += line.length
+        units.append(unit)
+    return units
+
+
+def notes_in_order(instrument, lines):
+    """All notes of a piece that fits."""
+    units = beginnings(lines)
+    notes = []
+    for number, line in enumerate(lines):
+        for stop in line.stops:
+            notes.append(Note(units[number], number, stop, instrument.sound(stop[0], stop[1])))
+    ranked = ranks([note.interval for note in notes])
+    return sorted(notes, key=lambda note: (note.begin, ranked[note.interval], note.course))
+
+
+def end_of(note, lines, ring):
+    """The unit at which a note ends."""
+    units = beginnings(lines)
+    if ring == RING_MOMENT:
+        return units[note.line + 1]
+    for number in range(note.line + 1, len(lines)):
+        if ring == RING_BAR and lines[number].is_bar():
+            return units[number]
+        if lines[number].strikes(note.course):
+            return units[number]
+    return units[len(lines)]

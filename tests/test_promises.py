@@ -1,0 +1,147 @@
+"""D1 and D4 on random instruments and pieces, against a second way of finding the notes."""
+
+import random
+import unittest
+from decimal import Decimal, localcontext
+from fractions import Fraction
+
+from lutesounds import desk
+from tests.helper import BAR, KINDS, LENGTH_SIGNS, as_bytes, instrument, piece
+
+FACTORS = (2, 3, 5, 7)
+
+
+def write_interval(powers):
+    factors = [str(f) if p == 1 else f"{f}^{p}" for f, p in zip(FACTORS, powers) if p != 0]
+    return " ".join(factors) or "1"
+
+
+def five_numbers(powers):
+    d = 1
+    while any(p * d != int(p * d) for p in powers):
+        d += 1
+    return [int(p * d) for p in powers] + [d]
+
+
+with localcontext() as context:
+    context.prec = 60
+    # Logarithms as whole numbers; all widths that differ do so far above the last digits.
+    LOGARITHMS = [int(Decimal(f).ln() * 10**50) for f in FACTORS]
+
+
+def width(powers):
+    """The ratio's logarithm."""
+    return sum(p * logarithm for p, logarithm in zip(powers, LOGARITHMS))
+
+
+def random_powers(source, d):
+    """Powers in parts of d, so small that any two upon one another are an interval."""
+    whole = min(4, 49 // d)
+    return tuple(Fraction(source.randrange(-4, 5), d) if source.random() < 0.5 else
+                 Fraction(source.randrange(-whole, whole + 1)) for factor in FACTORS)
+
+
+def random_lute(source):
+    d = source.choice((1, 2, 3, 4, 6, 12, 24))
+    frets = sorted((p for p in {random_powers(source, d) for k in range(source.randrange(31))} if width(p) > 0),
+                   key=width)
+    frets = [p for k, p in enumerate(frets) if k == 0 or width(p) > width(frets[k - 1])][:15]
+    courses = [random_powers(source, d) for k in range(source.randrange(1, 15))]
+    basses = [random_powers(source, 5) for k in range(source.randrange(15 - len(courses)))]
+    return frets, courses, basses
+
+
+def random_lines(source, frets, courses, basses):
+    """Lines that fit, at least one of them a moment."""
+    lines = []
+    strings = len(courses) + len(basses)
+    for number in range(source.randrange(1, 12)):
+        if source.random() < 0.3:
+            lines.append(BAR)
+            continue
+        stops = {}
+        for course in sorted(source.sample(range(1, strings + 1), source.randrange(strings + 1))):
+            stopped = course <= min(6, len(courses))
+            stops[course] = source.randrange(len(frets) + 1) if stopped else 0
+        lines.append((source.choice(list(LENGTH_SIGNS)), stops))
+    return lines + [(16, {})]
+
+
+def expected_notes(lute, lines):
+    """Of each note, in order: its beginning, its ends by the rings 0, 1, 2, line, course, fret, five numbers."""
+    frets, courses, basses = lute
+    total = sum(line[0] for line in lines if line is not BAR)
+    waiting = {}
+    notes = []
+    unit = 0
+    for number, line in enumerate(lines):
+        if line is BAR:
+            for note in waiting.values():
+                note["bar"] = min(note["bar"], unit)
+            continue
+        length, stops = line
+        for course, fret in stops.items():
+            if course in waiting:
+                waiting[course]["again"] = unit
+            powers = (courses + basses)[course - 1]
+            if fret > 0:
+                powers = tuple(p + q for p, q in zip(powers, frets[fret - 1]))
+            waiting[course] = {"begin": unit, "moment": unit + length, "again": total, "bar": total,
+                               "told": [number, course, fret] + five_numbers(powers),
+                               "order": (unit, width(powers), course)}
+            notes.append(waiting[course])
+        unit += length
+    answers = []
+    for note in sorted(notes, key=lambda note: note["order"]):
+        rings = (note["moment"], note["again"], min(note["again"], note["bar"]))
+        answers.append([[note["begin"], end] + note["told"] for end in rings])
+    return answers
+
+
+class Promises(unittest.TestCase):
+    def test_d1_notes_are_the_stops_in_order_and_end_as_told(self):
+        source = random.Random(11)
+        seen = 0
+        for number in range(250):
+            lute = random_lute(source)
+            lines = random_lines(source, *lute)
+            i = as_bytes(instrument(*[[write_interval(p) for p in part] for part in lute]))
+            t = as_bytes(piece(KINDS[number % 3], lines))
+            expected = expected_notes(lute, lines)
+            self.assertEqual(desk.fits(i, t), [len(expected)])
+            for k in source.sample(range(len(expected)), min(8, len(expected))):
+                answers = [desk.note(ring, k, i, t) for ring in range(3)]
+                self.assertEqual(answers, expected[k])
+                self.assert_no_shorter(answers)
+                seen += 1
+            self.assertEqual(desk.note(0, len(expected), i, t), [-4])
+        self.assertGreater(seen, 1000)
+
+    def assert_no_shorter(self, answers):
+        """D4, and that no note ends before it begins."""
+        begin = answers[0][0]
+        self.assertLessEqual(begin, answers[0][1])
+        self.assertLessEqual(answers[0][1], answers[2][1])
+        self.assertLessEqual(answers[2][1], answers[1][1])
+
+    def test_each_stop_is_one_note(self):
+        source = random.Random(12)
+        for number in range(60):
+            lute = random_lute(source)
+            lines = random_lines(source, *lute)
+            i = as_bytes(instrument(*[[write_interval(p) for p in part] for part in lute]))
+            t = as_bytes(piece(KINDS[number % 3], lines))
+            stops = [[k, c, f] for k, line in enumerate(lines) if line is not BAR for c, f in line[1].items()]
+            notes = [desk.note(1, k, i, t) for k in range(len(stops))]
+            self.assertEqual(sorted(answer[2:5] for answer in notes), stops)
+            begins = [answer[0] for answer in notes]
+            self.assertEqual(begins, sorted(begins))
+
+    def test_the_longest_piece_of_the_most_notes(self):
+        courses = ["2^97/24", "3^-95/23", "5^89/22", "7^-83/21", "2^79/20 3^-1/20", "3^61/19 5^-1/19", "1", "2",
+                   "3", "5", "7", "2^97/17", "3^97/16", "5^-97/13"]
+        i = as_bytes(instrument([], courses))
+        t = as_bytes(piece("french", [(96, {c: 0 for c in range(1, 15)})] * 512))
+        self.assertEqual(desk.fits(i, t), [7168])
+        last = desk.note(1, 7167, i, t)
+        self.assertEqual(last, [49056, 49152, 511, 13, 0, 0, 97, 0, 0, 16])

@@ -1,41 +1,77 @@
 """The calls. Each answers a list of whole numbers, a refusal one below 0."""
 
 from lutesounds.instruments import read_instrument
+from lutesounds.intervals import is_interval
 from lutesounds.notes import check_fit, count_notes, end_of, notes_in_order
 from lutesounds.pieces import read_piece
 from lutesounds.refusals import Misfit, NoInstrument, NoPiece, NoSuchChoice, NoSuchNote, Refusal, TextFault, TooLong
+from lutesounds.sounding import pure_units, sounding_at
 
 MOST_INSTRUMENT_BYTES = 4096
 MOST_PIECE_BYTES = 65536
 MOST_RING = 2
 
 
+class Tablature:
+    """An instrument and a piece's lines. Whether the piece fits is looked at later: other refusals come first."""
+
+    def __init__(self, instrument, lines):
+        self.instrument = instrument
+        self.lines = lines
+
+
 def fits(i, t):
     """How many notes the piece t has on the instrument i; or -3, the first misfit's line and its course."""
     try:
-        check_sizes(i, t)
-        instrument = instrument_of(i)
-        lines = piece_of(t)
-        check_fit(instrument, lines)
+        tablature = read_tablature(i, t)
+        check_fit(tablature.instrument, tablature.lines)
     except Misfit as misfit:
         return [misfit.answer, misfit.line, misfit.course]
     except Refusal as refusal:
         return [refusal.answer]
-    return [count_notes(lines)]
+    return [count_notes(tablature.lines)]
 
 
 def note(ring, k, i, t):
     """Of note k: its beginning, its end, its line, its course, its fret, its interval's five numbers."""
     try:
-        check_sizes(i, t)
-        instrument = instrument_of(i)
-        lines = piece_of(t)
+        tablature = read_tablature(i, t)
         check_ring(ring)
-        check_fit(instrument, lines)
-        found = note_of(notes_in_order(instrument, lines), k)
+        found = note_of(fitting_notes(tablature), k)
     except Refusal as refusal:
         return [refusal.answer]
-    return [found.begin, end_of(found, lines, ring), found.line, found.course, found.fret] + list(found.interval)
+    end = end_of(found, tablature.lines, ring)
+    return [found.begin, end, found.line, found.course, found.fret] + list(found.interval)
+
+
+def at(ring, n, i, t):
+    """How many notes sound at unit n, then their numbers, rising."""
+    try:
+        tablature = read_tablature(i, t)
+        check_ring(ring)
+        notes = fitting_notes(tablature)
+    except Refusal as refusal:
+        return [refusal.answer]
+    numbers = sounding_at(notes, tablature.lines, ring, n)
+    return [len(numbers)] + numbers
+
+
+def pure(ring, i, t, x):
+    """At how many units two notes sound of which the second one's interval is x upon the first one's."""
+    try:
+        tablature = read_tablature(i, t)
+        check_ring(ring)
+        check_interval(x)
+        notes = fitting_notes(tablature)
+    except Refusal as refusal:
+        return [refusal.answer]
+    return [pure_units(notes, tablature.lines, ring, x)]
+
+
+def read_tablature(i, t):
+    check_sizes(i, t)
+    instrument = instrument_of(i)
+    return Tablature(instrument, piece_of(t))
 
 
 def check_sizes(i, t):
@@ -60,6 +96,17 @@ def piece_of(text):
 def check_ring(ring):
     if ring > MOST_RING:
         raise NoSuchChoice()
+
+
+def check_interval(x):
+    if not is_interval(x):
+        raise NoSuchChoice()
+
+
+def fitting_notes(tablature):
+    """The notes in order; Misfit if the piece doesn't fit."""
+    check_fit(tablature.instrument, tablature.lines)
+    return notes_in_order(tablature.instrument, tablature.lines)
 
 
 def note_of(notes, k):

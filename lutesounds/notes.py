@@ -51,14 +51,18 @@ def notes_in_order(instrument, lines):
     return sorted(notes, key=lambda note: (note.begin, ranked[note.interval], note.course))
 
 
-def end_of(note, lines, ring):
-    """The unit at which a note ends."""
-    units = beginnings(lines)
+def end_line(note, lines, ring):
+    """The number of the line at whose beginning a note ends; where the piece ends, that behind the last one."""
     if ring == RING_MOMENT:
-        return units[note.line + 1]
+        return note.line + 1
     for number in range(note.line + 1, len(lines)):
         if ring == RING_BAR and lines[number].is_bar():
-            return units[number]
+            return number
         if lines[number].strikes(note.course):
-            return units[number]
-    return units[len(lines)]
+            return number
+    return len(lines)
+
+
+def end_of(note, lines, ring):
+    """The unit at which a note ends."""
+    return beginnings(lines)[end_line(note, lines, ring)]

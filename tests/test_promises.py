@@ -1,4 +1,4 @@
-"""D1 and D4 on random instruments and pieces, against a second way of finding the notes."""
+"""D1 to D4 on random instruments and pieces, against a second way of finding the notes."""
 
 import random
 import unittest
@@ -145,3 +145,76 @@ class Promises(unittest.TestCase):
         self.assertEqual(desk.fits(i, t), [7168])
         last = desk.note(1, 7167, i, t)
         self.assertEqual(last, [49056, 49152, 511, 13, 0, 0, 97, 0, 0, 16])
+
+
+def apart(first, second):
+    """How far the second five numbers are above the first, as five numbers."""
+    return five_numbers([Fraction(q, second[4]) - Fraction(p, first[4]) for p, q in zip(first[:4], second[:4])])
+
+
+def expected_sounding(expected, ring, n):
+    """The numbers of the notes that sound at unit n."""
+    return [k for k, rings in enumerate(expected) if rings[ring][0] <= n < rings[ring][1]]
+
+
+def expected_distances(expected, ring, total):
+    """Of each unit how far any two of its notes are apart, either way."""
+    distances = []
+    before = None
+    for n in range(total):
+        five = [expected[k][ring][5:] for k in expected_sounding(expected, ring, n)]
+        if five == before:
+            distances.append(distances[-1])
+        else:
+            distances.append([apart(p, q) for k, p in enumerate(five) for m, q in enumerate(five) if k != m])
+        before = five
+    return distances
+
+
+class WhatSounds(unittest.TestCase):
+    def cases(self, seed, count):
+        source = random.Random(seed)
+        for number in range(count):
+            lute = random_lute(source)
+            lines = random_lines(source, *lute)
+            i = as_bytes(instrument(*[[write_interval(p) for p in part] for part in lute]))
+            t = as_bytes(piece(KINDS[number % 3], lines))
+            total = sum(line[0] for line in lines if line is not BAR)
+            yield source, i, t, expected_notes(lute, lines), total
+
+    def test_d2_at_each_unit_just_those_told_sound(self):
+        most = 0
+        for source, i, t, expected, total in self.cases(21, 80):
+            edges = {edge for rings in expected for answer in rings for edge in answer[:2]}
+            units = {edge + step for edge in edges for step in (-1, 0) if edge + step >= 0} | {total, total + 1}
+            for ring in range(3):
+                for n in source.sample(sorted(units), min(12, len(units))):
+                    numbers = expected_sounding(expected, ring, n)
+                    self.assertEqual(desk.at(ring, n, i, t), [len(numbers)] + numbers)
+                    courses = [expected[k][ring][3] for k in numbers]
+                    self.assertEqual(len(courses), len(set(courses)))
+                    most = max(most, len(numbers))
+        self.assertGreater(most, 10)
+
+    def test_d3_pure_just_where_two_are_so_far_apart(self):
+        told = 0
+        for source, i, t, expected, total in self.cases(22, 60):
+            for ring in range(3):
+                distances = expected_distances(expected, ring, total)
+                there = sorted({tuple(x) for at_unit in distances for x in at_unit})
+                some = source.sample(there, min(6, len(there))) + [(0, 0, 0, 0, 1), (1, 0, 0, 0, 1), (5, -3, 0, 0, 24)]
+                for x in some:
+                    units = sum(list(x) in at_unit for at_unit in distances)
+                    is_interval = x[4] <= 24 and max(map(abs, x[:4])) <= 99
+                    self.assertEqual(desk.pure(ring, i, t, list(x)), [units] if is_interval else [-1])
+                    told += is_interval and 0 < units < total
+        self.assertGreater(told, 200)
+
+    def test_d3_inverse_and_longer_rings(self):
+        # Two are x apart just where they are x's inverse apart; what rings longer is pure no less long.
+        for source, i, t, expected, total in self.cases(23, 60):
+            for x in ([0, 0, 0, 0, 1], [1, 0, 0, 0, 1], [-1, 1, 0, 0, 1], [1, 0, 0, 0, 2]):
+                inverse = [-power for power in x[:4]] + x[4:]
+                answers = [desk.pure(ring, i, t, x)[0] for ring in (0, 2, 1)]
+                self.assertEqual(answers, [desk.pure(ring, i, t, inverse)[0] for ring in (0, 2, 1)])
+                self.assertTrue(0 <= answers[0] <= answers[1] <= answers[2] <= total, answers)

@@ -8,7 +8,12 @@ BAD_I = as_bytes("lute")
 GOOD_T = as_bytes(piece("french", [(16, {1: 0})]))
 BAD_T = as_bytes("song")
 MISFIT_T = as_bytes(piece("french", [(16, {1: 0}), BAR, (16, {2: 0})]))
+# An octave: both at once for 16 units, then the lower one again for 32.
+PAIR_I = as_bytes(instrument([], ["2", "1"]))
+PAIR_T = as_bytes(piece("italian", [(16, {1: 0, 2: 0}), (32, {2: 0})]))
 EMPTY_T = as_bytes(piece("french", [(16, {})]))
+UNISON = [0, 0, 0, 0, 1]
+NO_INTERVAL = [0, 0, 0, 0, 2]
 LONG_I = GOOD_I + as_bytes("\n") * (4097 - len(GOOD_I))
 LONG_T = GOOD_T + as_bytes("\n") * (65537 - len(GOOD_T))
 
@@ -21,17 +26,28 @@ class TooLong(unittest.TestCase):
         self.assertEqual(desk.fits(GOOD_I, LONG_T), [-2])
         self.assertEqual(desk.note(0, 0, GOOD_I, LONG_T), [-2])
         self.assertEqual(desk.fits(LONG_I, LONG_T), [-2])
+        for i, t in ((LONG_I, GOOD_T), (GOOD_I, LONG_T), (LONG_I, LONG_T)):
+            self.assertEqual(desk.at(0, 0, i, t), [-2])
+            self.assertEqual(desk.pure(0, i, t, UNISON), [-2])
 
     def test_just_not_too_long(self):
         self.assertEqual(desk.fits(LONG_I[:-1], GOOD_T), [-6])
         self.assertEqual(desk.note(0, 0, LONG_I[:-1], GOOD_T), [-6])
         self.assertEqual(desk.fits(GOOD_I, LONG_T[:-1]), [-8])
         self.assertEqual(desk.note(0, 0, GOOD_I, LONG_T[:-1]), [-8])
+        self.assertEqual((len(LONG_I[:-1]), len(LONG_T[:-1])), (4096, 65536))
+        self.assertEqual(desk.at(0, 0, LONG_I[:-1], GOOD_T), [-6])
+        self.assertEqual(desk.at(0, 0, GOOD_I, LONG_T[:-1]), [-8])
+        self.assertEqual(desk.pure(0, LONG_I[:-1], GOOD_T, UNISON), [-6])
+        self.assertEqual(desk.pure(0, GOOD_I, LONG_T[:-1], UNISON), [-8])
 
     def test_greatest_lists(self):
         self.assertEqual(desk.fits(LONG_I + [10] * (4200 - 4097), LONG_T + [10] * (66000 - 65537)), [-2])
         self.assertEqual(desk.fits(GOOD_I, [0] * 66000), [-2])
         self.assertEqual(desk.fits([255] * 4096, [255] * 65536), [-6])
+        self.assertEqual(desk.at(0, 0, GOOD_I, [0] * 66000), [-2])
+        self.assertEqual(desk.pure(0, [0] * 4200, GOOD_T, UNISON), [-2])
+        self.assertEqual(desk.pure(3, [255] * 4096, [255] * 65536, []), [-6])
 
 
 class InTheirOrder(unittest.TestCase):
@@ -76,6 +92,54 @@ class InTheirOrder(unittest.TestCase):
             self.assertEqual(desk.note(ring, 0, GOOD_I, GOOD_T), [0, 16, 0, 1, 0, 0, 0, 0, 0, 1])
 
 
+class InTheirOrderOfAtAndPure(unittest.TestCase):
+    def assert_answers(self, answer, ring, i, t, x=UNISON):
+        for n in (0, 16, 2147483647):
+            self.assertEqual(desk.at(ring, n, i, t), [answer])
+        self.assertEqual(desk.pure(ring, i, t, x), [answer])
+
+    def test_too_long_before_all_else(self):
+        for ring in (0, 3):
+            for x in (UNISON, NO_INTERVAL):
+                self.assert_answers(-2, ring, BAD_I, LONG_T, x)
+                self.assert_answers(-2, ring, LONG_I, BAD_T, x)
+                self.assert_answers(-2, ring, LONG_I, MISFIT_T, x)
+
+    def test_instrument_before_piece(self):
+        for ring in (0, 3):
+            for x in (UNISON, NO_INTERVAL):
+                self.assert_answers(-6, ring, BAD_I, BAD_T, x)
+                self.assert_answers(-6, ring, BAD_I, GOOD_T, x)
+                self.assert_answers(-6, ring, [], [], x)
+
+    def test_piece_before_ring_and_interval(self):
+        for ring in (0, 3, 2147483647):
+            for x in (UNISON, NO_INTERVAL, []):
+                self.assert_answers(-8, ring, GOOD_I, BAD_T, x)
+                self.assert_answers(-8, ring, GOOD_I, [], x)
+
+    def test_ring_and_interval_before_misfit(self):
+        for ring in (3, 4, 2147483647):
+            for t in (MISFIT_T, GOOD_T, EMPTY_T):
+                self.assert_answers(-1, ring, GOOD_I, t)
+                self.assert_answers(-1, ring, GOOD_I, t, NO_INTERVAL)
+        for ring in range(3):
+            for x in (NO_INTERVAL, [], [0] * 8, [1, 0, 0, 0, 0]):
+                for t in (MISFIT_T, GOOD_T, EMPTY_T):
+                    self.assertEqual(desk.pure(ring, GOOD_I, t, x), [-1])
+
+    def test_misfit_is_a_number_alone(self):
+        for ring in range(3):
+            self.assert_answers(-3, ring, GOOD_I, MISFIT_T)
+
+    def test_nothing_to_refuse(self):
+        for ring in range(3):
+            self.assertEqual(desk.at(ring, 0, GOOD_I, GOOD_T), [1, 0])
+            self.assertEqual(desk.at(ring, 0, GOOD_I, EMPTY_T), [0])
+            self.assertEqual(desk.pure(ring, GOOD_I, GOOD_T, UNISON), [0])
+            self.assertEqual(desk.pure(ring, GOOD_I, EMPTY_T, UNISON), [0])
+
+
 class NothingKept(unittest.TestCase):
     def test_what_is_handed_in_stays(self):
         for i in (GOOD_I, BAD_I, LONG_I):
@@ -87,6 +151,25 @@ class NothingKept(unittest.TestCase):
                         desk.note(ring, k, mine[0], mine[1])
                 self.assertEqual(mine, (i, t))
 
+    def test_what_is_handed_to_at_and_pure_stays(self):
+        for i in (PAIR_I, BAD_I, LONG_I):
+            for t in (PAIR_T, BAD_T, MISFIT_T, EMPTY_T, LONG_T):
+                for x in (UNISON, NO_INTERVAL, [1, 0, 0, 0, 1], [], [7] * 8):
+                    mine = (list(i), list(t), list(x))
+                    for ring in range(4):
+                        desk.at(ring, 20, mine[0], mine[1])
+                        desk.pure(ring, mine[0], mine[1], mine[2])
+                    self.assertEqual(mine, (i, t, x))
+
+    def test_at_and_pure_answer_as_the_first_time(self):
+        calls = [(ring, i, t, x) for i in (PAIR_I, GOOD_I, BAD_I) for t in (PAIR_T, BAD_T, MISFIT_T, EMPTY_T)
+                 for ring in range(4) for x in (UNISON, [1, 0, 0, 0, 1], NO_INTERVAL)]
+        first = [(desk.pure(*call), desk.at(call[0], 20, call[1], call[2])) for call in calls]
+        second = [(desk.pure(*call), desk.at(call[0], 20, call[1], call[2])) for call in reversed(calls)]
+        self.assertEqual(first, list(reversed(second)))
+        self.assertEqual(desk.at(1, 20, PAIR_I, PAIR_T), [2, 1, 2])
+        self.assertEqual(desk.pure(1, PAIR_I, PAIR_T, [1, 0, 0, 0, 1]), [48])
+
     def test_a_second_call_answers_as_the_first(self):
         calls = [(ring, k, i, t) for i in (GOOD_I, BAD_I) for t in (GOOD_T, BAD_T, MISFIT_T, EMPTY_T)
                  for ring in range(4) for k in range(2)]
@@ -96,7 +179,9 @@ class NothingKept(unittest.TestCase):
 
     def test_an_answer_is_the_callers_own(self):
         for call in (lambda: desk.note(0, 0, GOOD_I, GOOD_T), lambda: desk.fits(GOOD_I, GOOD_T),
-                     lambda: desk.fits(GOOD_I, MISFIT_T), lambda: desk.fits(BAD_I, GOOD_T)):
+                     lambda: desk.fits(GOOD_I, MISFIT_T), lambda: desk.fits(BAD_I, GOOD_T),
+                     lambda: desk.at(0, 0, PAIR_I, PAIR_T), lambda: desk.at(0, 99, PAIR_I, PAIR_T),
+                     lambda: desk.pure(0, PAIR_I, PAIR_T, UNISON), lambda: desk.pure(3, PAIR_I, PAIR_T, UNISON)):
             answer = call()
             before = list(answer)
             answer.append(7)
@@ -105,10 +190,15 @@ class NothingKept(unittest.TestCase):
 
     def test_kinds_of_the_answers(self):
         for answer in (desk.note(0, 0, GOOD_I, GOOD_T), desk.note(0, 5, GOOD_I, GOOD_T), desk.fits(GOOD_I, GOOD_T),
-                       desk.fits(GOOD_I, MISFIT_T), desk.fits(BAD_I, GOOD_T)):
+                       desk.fits(GOOD_I, MISFIT_T), desk.fits(BAD_I, GOOD_T), desk.at(0, 0, PAIR_I, PAIR_T),
+                       desk.at(0, 99, PAIR_I, PAIR_T), desk.at(3, 0, PAIR_I, PAIR_T),
+                       desk.pure(0, PAIR_I, PAIR_T, UNISON), desk.pure(1, PAIR_I, PAIR_T, [1, 0, 0, 0, 1]),
+                       desk.pure(0, PAIR_I, PAIR_T, [])):
             self.assertIs(type(answer), list)
             self.assertEqual({type(number) for number in answer}, {int})
 
     def test_arguments_by_their_names(self):
         self.assertEqual(desk.fits(i=GOOD_I, t=GOOD_T), [1])
         self.assertEqual(desk.note(ring=0, k=0, i=GOOD_I, t=GOOD_T), desk.note(0, 0, GOOD_I, GOOD_T))
+        self.assertEqual(desk.at(ring=0, n=20, i=PAIR_I, t=PAIR_T), [1, 2])
+        self.assertEqual(desk.pure(ring=0, i=PAIR_I, t=PAIR_T, x=[1, 0, 0, 0, 1]), [16])

@@ -2,9 +2,11 @@
 
 from lutesounds.instruments import read_instrument
 from lutesounds.intervals import is_interval
-from lutesounds.notes import check_fit, count_notes, end_of, notes_in_order
+from lutesounds.notes import check_fit, count_notes, ends_of, lowest_and_highest, notes_in_order
 from lutesounds.pieces import read_piece
-from lutesounds.refusals import Misfit, NoInstrument, NoPiece, NoSuchChoice, NoSuchNote, Refusal, TextFault, TooLong
+from lutesounds.refusals import Misfit, NoInstrument, NoNote, NoPiece, NoSuchChoice, NoSuchNote
+from lutesounds.refusals import Refusal, TextFault, TooLong
+from lutesounds.scores import score_entries, write_score
 from lutesounds.sounding import pure_units, sounding_at
 
 MOST_INSTRUMENT_BYTES = 4096
@@ -40,8 +42,8 @@ def note(ring, k, i, t):
         found = note_of(fitting_notes(tablature), k)
     except Refusal as refusal:
         return [refusal.answer]
-    end = end_of(found, tablature.lines, ring)
-    return [found.begin, end, found.line, found.course, found.fret] + list(found.interval)
+    ends = ends_of([found], tablature.lines, ring)
+    return [found.begin, ends[0], found.line, found.course, found.fret] + list(found.interval)
 
 
 def at(ring, n, i, t):
@@ -66,6 +68,28 @@ def pure(ring, i, t, x):
     except Refusal as refusal:
         return [refusal.answer]
     return [pure_units(notes, tablature.lines, ring, x)]
+
+
+def span(i, t):
+    """The number of the lowest note, then that of the highest one."""
+    try:
+        notes = fitting_notes(read_tablature(i, t))
+        check_any(notes)
+    except Refusal as refusal:
+        return [refusal.answer]
+    return lowest_and_highest(notes)
+
+
+def score(ring, i, t):
+    """How many bytes the score has, then these."""
+    try:
+        tablature = read_tablature(i, t)
+        check_ring(ring)
+        notes = fitting_notes(tablature)
+    except Refusal as refusal:
+        return [refusal.answer]
+    written = write_score(score_entries(notes, tablature.lines, ring))
+    return [len(written)] + written
 
 
 def read_tablature(i, t):
@@ -107,6 +131,11 @@ def fitting_notes(tablature):
     """The notes in order; Misfit if the piece doesn't fit."""
     check_fit(tablature.instrument, tablature.lines)
     return notes_in_order(tablature.instrument, tablature.lines)
+
+
+def check_any(notes):
+    if len(notes) == 0:
+        raise NoNote()
 
 
 def note_of(notes, k):

@@ -8,6 +8,24 @@ FACTORS = "2357"
 MOST_DIGITS = 4
 
 
+def write_interval(interval):
+    """An interval's text."""
+    factors = [write_factor(sign, interval[k], interval[4]) for k, sign in enumerate(FACTORS) if interval[k] != 0]
+    return " ".join(factors) if len(factors) > 0 else "1"
+
+
+def write_factor(sign, top, below):
+    """A factor whose power is top by below: these may have a common factor that not all of an interval's five have."""
+    common = common_factor(top, below)
+    top = top // common
+    below = below // common
+    if below > 1:
+        return f"{sign}^{top}/{below}"
+    if top == 1:
+        return sign
+    return f"{sign}^{top}"
+
+
 def read_interval(text, place, end):
     """The interval that the text tells from a place up to an end; TextFault where it is at fault."""
     reader = Reader(text, place, end)

@@ -8,14 +8,18 @@ RING_BAR = 2
 
 
 class Note:
-    """A stop and what it sounds. When it ends depends on the way of ringing: end_of tells it."""
+    """A stop and what it sounds. When it ends depends on the way of ringing: ends_of tells it.
 
-    def __init__(self, begin, line, stop, interval):
+    Its height is its interval's rank among those of its piece, which compares in the interval's place.
+    """
+
+    def __init__(self, begin, line, stop, interval, height):
         self.begin = begin
         self.line = line
         self.course = stop[0]
         self.fret = stop[1]
         self.interval = interval
+        self.height = height
 
 
 def check_fit(instrument, lines):
@@ -40,15 +44,33 @@ def beginnings(lines):
     return units
 
 
+def sounds_of(instrument, lines):
+    """A dict of each stop of the piece and the interval that it sounds."""
+    sounds = {}
+    for line in lines:
+        for stop in line.stops:
+            if stop not in sounds:
+                sounds[stop] = instrument.sound(stop[0], stop[1])
+    return sounds
+
+
 def notes_in_order(instrument, lines):
     """All notes of a piece that fits."""
     units = beginnings(lines)
+    sounds = sounds_of(instrument, lines)
+    heights = ranks(list(sounds.values()))
     notes = []
     for number, line in enumerate(lines):
         for stop in line.stops:
-            notes.append(Note(units[number], number, stop, instrument.sound(stop[0], stop[1])))
-    ranked = ranks([note.interval for note in notes])
-    return sorted(notes, key=lambda note: (note.begin, ranked[note.interval], note.course))
+            interval = sounds[stop]
+            notes.append(Note(units[number], number, stop, interval, heights[interval]))
+    return sorted(notes, key=lambda note: (note.begin, note.height, note.course))
+
+
+def lowest_and_highest(notes):
+    """The number of the lowest note and that of the highest one; of as low, as high ones the first."""
+    heights = [note.height for note in notes]
+    return [heights.index(min(heights)), heights.index(max(heights))]
 
 
 def end_line(note, lines, ring):
@@ -63,6 +85,7 @@ def end_line(note, lines, ring):
     return len(lines)
 
 
-def end_of(note, lines, ring):
-    """The unit at which a note ends."""
-    return beginnings(lines)[end_line(note, lines, ring)]
+def ends_of(notes, lines, ring):
+    """Of each of the notes the unit at which it ends."""
+    units = beginnings(lines)
+    return [units[end_line(note, lines, ring)] for note in notes]

@@ -45,6 +45,13 @@ class NoSuchNote(Refusal):
         Refusal.__init__(self, -4)
 
 
+class NoNote(Refusal):
+    """There is no note at all."""
+
+    def __init__(self):
+        Refusal.__init__(self, -5)
+
+
 class NoInstrument(Refusal):
     """The first text is no instrument's."""
 

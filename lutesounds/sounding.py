@@ -1,13 +1,13 @@
 """Which notes sound at which units, of a piece's notes in order."""
 
 from lutesounds.intervals import upon
-from lutesounds.notes import beginnings, end_line
+from lutesounds.notes import end_line, ends_of
 
 
 def sounding_at(notes, lines, ring, unit):
     """The numbers of the notes that sound at a unit, rising."""
-    units = beginnings(lines)
-    return [k for k, note in enumerate(notes) if note.begin <= unit < units[end_line(note, lines, ring)]]
+    ends = ends_of(notes, lines, ring)
+    return [k for k, note in enumerate(notes) if note.begin <= unit < ends[k]]
 
 
 def pure_units(notes, lines, ring, x):

@@ -1,11 +1,13 @@
 import itertools
 import math
+import random
 import re
 import unittest
 from fractions import Fraction
 
 from lutesounds import desk
-from lutesounds.intervaltexts import read_interval
+from lutesounds.intervals import is_interval
+from lutesounds.intervaltexts import read_interval, write_interval
 from lutesounds.refusals import TextFault
 from tests.helper import as_bytes, fault, instrument, piece
 
@@ -133,3 +135,39 @@ class IntervalTexts(unittest.TestCase):
                 except TextFault:
                     pass
                 self.assertEqual(found, expected, repr(text))
+
+
+class Writing(unittest.TestCase):
+    def test_good_ones(self):
+        for text, interval in GOOD.items():
+            self.assertEqual(write_interval(tuple(interval)), text)
+
+    def assert_read_again(self, interval):
+        text = write_interval(interval)
+        self.assertEqual(read(as_bytes(text)), interval, text)
+        self.assertEqual(by_the_form(text), interval, text)
+
+    def test_each_power_and_each_d(self):
+        for power in range(-99, 100):
+            for d in range(1, 25):
+                if math.gcd(power, d) == 1:
+                    for k in range(4):
+                        self.assert_read_again((0,) * k + (power,) + (0,) * (3 - k) + (d,))
+
+    def test_different_parts_of_one_d(self):
+        self.assertEqual(write_interval((6, 10, 15, 0, 12)), "2^1/2 3^5/6 5^5/4")
+        self.assertEqual(write_interval((12, -12, 24, 1, 12)), "2 3^-1 5^2 7^1/12")
+        self.assertEqual(write_interval((3, 8, 0, 0, 24)), "2^1/8 3^1/3")
+        self.assertEqual(write_interval((0, -72, 48, 1, 24)), "3^-3 5^2 7^1/24")
+        self.assertEqual(write_interval((99, -99, 98, 0, 24)), "2^33/8 3^-33/8 5^49/12")
+
+    def test_what_is_written_is_read_as_what_it_was_written_of(self):
+        source = random.Random(31)
+        seen = 0
+        while seen < 3000:
+            greatest = source.choice((1, 3, 24, 99))
+            interval = tuple([source.choice((0, source.randint(-greatest, greatest))) for k in range(4)]
+                             + [source.randint(1, 24)])
+            if is_interval(interval):
+                self.assert_read_again(interval)
+                seen += 1

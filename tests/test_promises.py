@@ -1,5 +1,6 @@
-"""D1 to D4 on random instruments and pieces, against a second way of finding the notes."""
+"""D1 to D5 on random instruments and pieces, against a second way of finding the notes."""
 
+import itertools
 import random
 import unittest
 from decimal import Decimal, localcontext
@@ -171,20 +172,21 @@ def expected_distances(expected, ring, total):
     return distances
 
 
-class WhatSounds(unittest.TestCase):
-    def cases(self, seed, count):
-        source = random.Random(seed)
-        for number in range(count):
-            lute = random_lute(source)
-            lines = random_lines(source, *lute)
-            i = as_bytes(instrument(*[[write_interval(p) for p in part] for part in lute]))
-            t = as_bytes(piece(KINDS[number % 3], lines))
-            total = sum(line[0] for line in lines if line is not BAR)
-            yield source, i, t, expected_notes(lute, lines), total
+def cases(seed, count):
+    source = random.Random(seed)
+    for number in range(count):
+        lute = random_lute(source)
+        lines = random_lines(source, *lute)
+        i = as_bytes(instrument(*[[write_interval(p) for p in part] for part in lute]))
+        t = as_bytes(piece(KINDS[number % 3], lines))
+        total = sum(line[0] for line in lines if line is not BAR)
+        yield source, i, t, expected_notes(lute, lines), total
 
+
+class WhatSounds(unittest.TestCase):
     def test_d2_at_each_unit_just_those_told_sound(self):
         most = 0
-        for source, i, t, expected, total in self.cases(21, 80):
+        for source, i, t, expected, total in cases(21, 80):
             edges = {edge for rings in expected for answer in rings for edge in answer[:2]}
             units = {edge + step for edge in edges for step in (-1, 0) if edge + step >= 0} | {total, total + 1}
             for ring in range(3):
@@ -198,7 +200,7 @@ class WhatSounds(unittest.TestCase):
 
     def test_d3_pure_just_where_two_are_so_far_apart(self):
         told = 0
-        for source, i, t, expected, total in self.cases(22, 60):
+        for source, i, t, expected, total in cases(22, 60):
             for ring in range(3):
                 distances = expected_distances(expected, ring, total)
                 there = sorted({tuple(x) for at_unit in distances for x in at_unit})
@@ -212,9 +214,116 @@ class WhatSounds(unittest.TestCase):
 
     def test_d3_inverse_and_longer_rings(self):
         # Two are x apart just where they are x's inverse apart; what rings longer is pure no less long.
-        for source, i, t, expected, total in self.cases(23, 60):
+        for source, i, t, expected, total in cases(23, 60):
             for x in ([0, 0, 0, 0, 1], [1, 0, 0, 0, 1], [-1, 1, 0, 0, 1], [1, 0, 0, 0, 2]):
                 inverse = [-power for power in x[:4]] + x[4:]
                 answers = [desk.pure(ring, i, t, x)[0] for ring in (0, 2, 1)]
                 self.assertEqual(answers, [desk.pure(ring, i, t, inverse)[0] for ring in (0, 2, 1)])
                 self.assertTrue(0 <= answers[0] <= answers[1] <= answers[2] <= total, answers)
+
+
+def five_powers(five):
+    return [Fraction(power, five[4]) for power in five[:4]]
+
+
+def expected_score(expected, ring):
+    """The answer of score."""
+    answers = sorted((rings[ring] for rings in expected),
+                     key=lambda answer: (answer[0], width(five_powers(answer[5:])), answer[1]))
+    lines = [f"{answer[0]} {answer[1] - answer[0]} {write_interval(five_powers(answer[5:]))}\n" for answer in answers]
+    text = as_bytes("".join(lines))
+    return [len(text)] + text
+
+
+def score_lengths(answer):
+    """Of each beginning and interval how long its notes sound, as a score's text tells it."""
+    lengths = {}
+    for line in bytes(answer[1:]).decode("ascii").split("\n")[:-1]:
+        begin, length, interval = line.split(" ", 2)
+        lengths.setdefault((begin, interval), []).append(int(length))
+    return lengths
+
+
+class SpanAndScore(unittest.TestCase):
+    def test_span_tells_the_first_of_the_lowest_and_of_the_highest(self):
+        seen = 0
+        for source, i, t, expected, total in cases(31, 200):
+            widths = [width(five_powers(rings[0][5:])) for rings in expected]
+            if not widths:
+                self.assertEqual(desk.span(i, t), [-5])
+                continue
+            answer = desk.span(i, t)
+            self.assertEqual(answer, [widths.index(min(widths)), widths.index(max(widths))])
+            seen += answer[0] > 0 and answer[1] < len(widths) - 1
+        self.assertGreater(seen, 50)
+
+    def test_d1_the_score_tells_each_note_once(self):
+        for source, i, t, expected, total in cases(32, 200):
+            for ring in range(3):
+                self.assertEqual(desk.score(ring, i, t), expected_score(expected, ring))
+
+    def test_d1_and_d4_by_what_note_answers(self):
+        longer = 0
+        for source, i, t, expected, total in cases(33, 40):
+            count = desk.fits(i, t)[0]
+            scores = [score_lengths(desk.score(ring, i, t)) for ring in range(3)]
+            for ring in range(3):
+                notes = [desk.note(ring, k, i, t) for k in range(count)]
+                told = {}
+                for answer in notes:
+                    key = (str(answer[0]), write_interval(five_powers(answer[5:])))
+                    told.setdefault(key, []).append(answer[1] - answer[0])
+                self.assertEqual(scores[ring], {key: sorted(lengths) for key, lengths in told.items()})
+            for key, lengths in scores[0].items():
+                for first, second, third in zip(lengths, scores[2][key], scores[1][key], strict=True):
+                    self.assertTrue(0 < first <= second <= third, key)
+                    longer += first < second < third
+        self.assertGreater(longer, 20)
+
+
+def unit_by_unit(i, t, ring, units):
+    """Of each unit the intervals that begin; those that sound; those that sound, with their beginnings."""
+    notes = [desk.note(ring, k, i, t) for k in range(desk.fits(i, t)[0])]
+    begin, sound, both = [], [], []
+    for n in range(units):
+        sounding = [notes[k] for k in desk.at(ring, n, i, t)[1:]]
+        begin.append(sorted(answer[5:] for answer in sounding if answer[0] == n))
+        sound.append(sorted(answer[5:] for answer in sounding))
+        both.append(sorted(answer[:1] + answer[5:] for answer in sounding))
+    return repr((begin, sound)), repr(both)
+
+
+class OneScore(unittest.TestCase):
+    """D5's first half, of all pieces of three short moments on two courses that sound alike."""
+
+    def all_pieces(self):
+        i = as_bytes(instrument(["2"], ["1", "1"]))
+        stops = [{}, {1: 0}, {1: 1}, {2: 0}, {2: 1}, {1: 0, 2: 0}, {1: 0, 2: 1}, {1: 1, 2: 0}, {1: 1, 2: 1}]
+        for number, moments in enumerate(itertools.product(stops, repeat=3)):
+            lines = [(1, moment) for moment in moments]
+            if number % 2 == 1:
+                lines.insert(2, BAR)
+            yield i, as_bytes(piece(KINDS[number % 3], lines))
+
+    def test_d5_scores_are_one_just_if_units_are(self):
+        for ring in range(3):
+            units_of, score_of, counts_of = {}, {}, {}
+            for i, t in self.all_pieces():
+                text = tuple(desk.score(ring, i, t))
+                counts, units = unit_by_unit(i, t, ring, 3)
+                self.assertEqual(units_of.setdefault(text, units), units)
+                self.assertEqual(score_of.setdefault(units, text), text)
+                self.assertEqual(counts_of.setdefault(text, counts), counts)
+            self.assertGreater(len(score_of), 100)
+
+    def test_d5_which_of_two_ends_first_is_told(self):
+        # One begins at 0, one at 1, as high; at 2 one of them ends. At each unit as many begin and as many sound,
+        # but not for as long: the scores' lines differ.
+        i = as_bytes(instrument(["2"], ["1", "1"]))
+        first = as_bytes(piece("french", [(1, {1: 0}), (1, {2: 0}), (1, {1: 1})]))
+        second = as_bytes(piece("french", [(1, {1: 0}), (1, {2: 0}), (1, {2: 1})]))
+        one, other = (unit_by_unit(i, t, 1, 3) for t in (first, second))
+        self.assertEqual(one[0], other[0])
+        self.assertNotEqual(one[1], other[1])
+        self.assertEqual(desk.score(1, i, first)[1:], as_bytes("0 2 1\n1 2 1\n2 1 2\n"))
+        self.assertEqual(desk.score(1, i, second)[1:], as_bytes("0 3 1\n1 1 1\n2 1 2\n"))

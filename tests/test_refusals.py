@@ -30,6 +30,18 @@ class TooLong(unittest.TestCase):
             self.assertEqual(desk.at(0, 0, i, t), [-2])
             self.assertEqual(desk.pure(0, i, t, UNISON), [-2])
 
+    def test_sizes_of_span_and_score(self):
+        for i, t in ((LONG_I, GOOD_T), (GOOD_I, LONG_T), (LONG_I, LONG_T), ([0] * 4200, GOOD_T), (GOOD_I, [0] * 66000)):
+            self.assertEqual(desk.span(i, t), [-2])
+            for ring in range(4):
+                self.assertEqual(desk.score(ring, i, t), [-2])
+
+    def test_just_not_too_long_of_span_and_score(self):
+        for i, t, answer in ((LONG_I[:-1], GOOD_T, [-6]), (GOOD_I, LONG_T[:-1], [-8]), (LONG_I[:-1], LONG_T[:-1], [-6])):
+            self.assertEqual(desk.span(i, t), answer)
+            for ring in range(4):
+                self.assertEqual(desk.score(ring, i, t), answer)
+
     def test_just_not_too_long(self):
         self.assertEqual(desk.fits(LONG_I[:-1], GOOD_T), [-6])
         self.assertEqual(desk.note(0, 0, LONG_I[:-1], GOOD_T), [-6])
@@ -140,6 +152,50 @@ class InTheirOrderOfAtAndPure(unittest.TestCase):
             self.assertEqual(desk.pure(ring, GOOD_I, EMPTY_T, UNISON), [0])
 
 
+class InTheirOrderOfSpanAndScore(unittest.TestCase):
+    def assert_answers(self, answer, ring, i, t):
+        self.assertEqual(desk.span(i, t), [answer])
+        self.assertEqual(desk.score(ring, i, t), [answer])
+
+    def test_too_long_before_all_else(self):
+        for ring in (0, 3):
+            self.assert_answers(-2, ring, BAD_I, LONG_T)
+            self.assert_answers(-2, ring, LONG_I, BAD_T)
+            self.assert_answers(-2, ring, LONG_I, MISFIT_T)
+            self.assert_answers(-2, ring, LONG_I, EMPTY_T)
+
+    def test_instrument_before_piece(self):
+        for ring in (0, 3):
+            for t in (BAD_T, GOOD_T, MISFIT_T, EMPTY_T, []):
+                self.assert_answers(-6, ring, BAD_I, t)
+                self.assert_answers(-6, ring, [], t)
+
+    def test_piece_before_ring(self):
+        for ring in (0, 3, 2147483647):
+            self.assert_answers(-8, ring, GOOD_I, BAD_T)
+            self.assert_answers(-8, ring, GOOD_I, [])
+
+    def test_ring_before_misfit(self):
+        for ring in (3, 4, 2147483647):
+            for t in (MISFIT_T, GOOD_T, EMPTY_T):
+                self.assertEqual(desk.score(ring, GOOD_I, t), [-1])
+
+    def test_misfit_is_a_number_alone(self):
+        for ring in range(3):
+            self.assert_answers(-3, ring, GOOD_I, MISFIT_T)
+
+    def test_no_note_is_refused_by_span_alone(self):
+        self.assertEqual(desk.span(GOOD_I, EMPTY_T), [-5])
+        for ring in range(3):
+            self.assertEqual(desk.score(ring, GOOD_I, EMPTY_T), [0])
+
+    def test_nothing_to_refuse(self):
+        self.assertEqual(desk.span(GOOD_I, GOOD_T), [0, 0])
+        self.assertEqual(desk.span(PAIR_I, PAIR_T), [0, 1])
+        for ring in range(3):
+            self.assertEqual(desk.score(ring, GOOD_I, GOOD_T), [7] + as_bytes("0 16 1\n"))
+
+
 class NothingKept(unittest.TestCase):
     def test_what_is_handed_in_stays(self):
         for i in (GOOD_I, BAD_I, LONG_I):
@@ -170,6 +226,23 @@ class NothingKept(unittest.TestCase):
         self.assertEqual(desk.at(1, 20, PAIR_I, PAIR_T), [2, 1, 2])
         self.assertEqual(desk.pure(1, PAIR_I, PAIR_T, [1, 0, 0, 0, 1]), [48])
 
+    def test_what_is_handed_to_span_and_score_stays(self):
+        for i in (PAIR_I, BAD_I, LONG_I):
+            for t in (PAIR_T, BAD_T, MISFIT_T, EMPTY_T, LONG_T):
+                mine = (list(i), list(t))
+                desk.span(mine[0], mine[1])
+                for ring in range(4):
+                    desk.score(ring, mine[0], mine[1])
+                self.assertEqual(mine, (i, t))
+
+    def test_span_and_score_answer_as_the_first_time(self):
+        calls = [(ring, i, t) for i in (PAIR_I, GOOD_I, BAD_I) for t in (PAIR_T, GOOD_T, BAD_T, MISFIT_T, EMPTY_T)
+                 for ring in range(4)]
+        first = [(desk.score(*call), desk.span(*call[1:])) for call in calls]
+        second = [(desk.score(*call), desk.span(*call[1:])) for call in reversed(calls)]
+        self.assertEqual(first, list(reversed(second)))
+        self.assertEqual(desk.score(1, PAIR_I, PAIR_T), [22] + as_bytes("0 16 1\n0 48 2\n16 32 1\n"))
+
     def test_a_second_call_answers_as_the_first(self):
         calls = [(ring, k, i, t) for i in (GOOD_I, BAD_I) for t in (GOOD_T, BAD_T, MISFIT_T, EMPTY_T)
                  for ring in range(4) for k in range(2)]
@@ -181,7 +254,9 @@ class NothingKept(unittest.TestCase):
         for call in (lambda: desk.note(0, 0, GOOD_I, GOOD_T), lambda: desk.fits(GOOD_I, GOOD_T),
                      lambda: desk.fits(GOOD_I, MISFIT_T), lambda: desk.fits(BAD_I, GOOD_T),
                      lambda: desk.at(0, 0, PAIR_I, PAIR_T), lambda: desk.at(0, 99, PAIR_I, PAIR_T),
-                     lambda: desk.pure(0, PAIR_I, PAIR_T, UNISON), lambda: desk.pure(3, PAIR_I, PAIR_T, UNISON)):
+                     lambda: desk.pure(0, PAIR_I, PAIR_T, UNISON), lambda: desk.pure(3, PAIR_I, PAIR_T, UNISON),
+                     lambda: desk.span(PAIR_I, PAIR_T), lambda: desk.span(PAIR_I, EMPTY_T),
+                     lambda: desk.score(0, PAIR_I, PAIR_T), lambda: desk.score(0, PAIR_I, EMPTY_T)):
             answer = call()
             before = list(answer)
             answer.append(7)
@@ -193,7 +268,8 @@ class NothingKept(unittest.TestCase):
                        desk.fits(GOOD_I, MISFIT_T), desk.fits(BAD_I, GOOD_T), desk.at(0, 0, PAIR_I, PAIR_T),
                        desk.at(0, 99, PAIR_I, PAIR_T), desk.at(3, 0, PAIR_I, PAIR_T),
                        desk.pure(0, PAIR_I, PAIR_T, UNISON), desk.pure(1, PAIR_I, PAIR_T, [1, 0, 0, 0, 1]),
-                       desk.pure(0, PAIR_I, PAIR_T, [])):
+                       desk.pure(0, PAIR_I, PAIR_T, []), desk.span(PAIR_I, PAIR_T), desk.span(PAIR_I, EMPTY_T),
+                       desk.score(0, PAIR_I, PAIR_T), desk.score(0, PAIR_I, EMPTY_T), desk.score(3, PAIR_I, PAIR_T)):
             self.assertIs(type(answer), list)
             self.assertEqual({type(number) for number in answer}, {int})
 
@@ -202,3 +278,5 @@ class NothingKept(unittest.TestCase):
         self.assertEqual(desk.note(ring=0, k=0, i=GOOD_I, t=GOOD_T), desk.note(0, 0, GOOD_I, GOOD_T))
         self.assertEqual(desk.at(ring=0, n=20, i=PAIR_I, t=PAIR_T), [1, 2])
         self.assertEqual(desk.pure(ring=0, i=PAIR_I, t=PAIR_T, x=[1, 0, 0, 0, 1]), [16])
+        self.assertEqual(desk.span(i=PAIR_I, t=PAIR_T), [0, 1])
+        self.assertEqual(desk.score(ring=0, i=GOOD_I, t=GOOD_T), [7] + as_bytes("0 16 1\n"))

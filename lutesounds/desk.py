@@ -4,9 +4,9 @@ from lutesounds.instruments import read_instrument
 from lutesounds.intervals import is_interval
 from lutesounds.notes import check_fit, count_notes, ends_of, lowest_and_highest, notes_in_order
 from lutesounds.pieces import read_piece
-from lutesounds.refusals import Misfit, NoInstrument, NoNote, NoPiece, NoSuchChoice, NoSuchNote
-from lutesounds.refusals import Refusal, TextFault, TooLong
-from lutesounds.scores import score_entries, write_score
+from lutesounds.refusals import Misfit, NoInstrument, NoNote, NoOtherInstrument, NoOtherPiece, NoPiece
+from lutesounds.refusals import NoSuchChoice, NoSuchNote, Refusal, TextFault, TooLong
+from lutesounds.scores import raised_entries, score_entries, write_score
 from lutesounds.sounding import pure_units, sounding_at
 
 MOST_INSTRUMENT_BYTES = 4096
@@ -85,17 +85,47 @@ def score(ring, i, t):
     try:
         tablature = read_tablature(i, t)
         check_ring(ring)
-        notes = fitting_notes(tablature)
+        entries = fitting_entries(tablature, ring)
     except Refusal as refusal:
         return [refusal.answer]
-    written = write_score(score_entries(notes, tablature.lines, ring))
+    written = write_score(entries)
     return [len(written)] + written
+
+
+def same(ring, i, t, j, u, x):
+    """1 if the score of u on j is that of t on i with each interval raised by x, else 0."""
+    try:
+        check_sizes(i, t)
+        check_sizes(j, u)
+        first = tablature_of(i, t)
+        second = other_tablature_of(j, u)
+        check_ring(ring)
+        check_interval(x)
+        entries = fitting_entries(first, ring)
+        others = fitting_entries(second, ring)
+    except Refusal as refusal:
+        return [refusal.answer]
+    return [1 if others == raised_entries(entries, x) else 0]
 
 
 def read_tablature(i, t):
     check_sizes(i, t)
+    return tablature_of(i, t)
+
+
+def tablature_of(i, t):
     instrument = instrument_of(i)
     return Tablature(instrument, piece_of(t))
+
+
+def other_tablature_of(j, u):
+    """As tablature_of, but refused by the numbers of the second one of two."""
+    try:
+        return tablature_of(j, u)
+    except NoInstrument:
+        raise NoOtherInstrument() from None
+    except NoPiece:
+        raise NoOtherPiece() from None
 
 
 def check_sizes(i, t):
@@ -131,6 +161,12 @@ def fitting_notes(tablature):
     """The notes in order; Misfit if the piece doesn't fit."""
     check_fit(tablature.instrument, tablature.lines)
     return notes_in_order(tablature.instrument, tablature.lines)
+
+
+def fitting_entries(tablature, ring):
+    """The score's entries; Misfit if the piece doesn't fit."""
+    notes = fitting_notes(tablature)
+    return score_entries(notes, tablature.lines, ring)
 
 
 def check_any(notes):

@@ -53,14 +53,28 @@ class NoNote(Refusal):
 
 
 class NoInstrument(Refusal):
-    """The first text is no instrument's."""
+    """A text is no instrument's: the only one, or the first of two."""
 
     def __init__(self):
         Refusal.__init__(self, -6)
 
 
 class NoPiece(Refusal):
-    """The second text is no piece's."""
+    """A text is no piece's: the only one, or the first of two."""
 
     def __init__(self):
         Refusal.__init__(self, -8)
+
+
+class NoOtherInstrument(Refusal):
+    """Of two instruments' texts the second one is none."""
+
+    def __init__(self):
+        Refusal.__init__(self, -9)
+
+
+class NoOtherPiece(Refusal):
+    """Of two pieces' texts the second one is none."""
+
+    def __init__(self):
+        Refusal.__init__(self, -10)

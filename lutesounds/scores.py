@@ -1,5 +1,6 @@
 """The score of a piece on an instrument, by a way of ringing."""
 
+from lutesounds.intervals import upon
 from lutesounds.intervaltexts import write_interval
 from lutesounds.notes import ends_of
 
@@ -10,6 +11,14 @@ def score_entries(notes, lines, ring):
     # Of one beginning and interval the notes' own order is by courses, the score's by how long they are.
     keyed = [(note.begin, note.height, ends[k] - note.begin, note.interval) for k, note in enumerate(notes)]
     return [(begin, length, interval) for begin, height, length, interval in sorted(keyed)]
+
+
+def raised_entries(entries, x):
+    """The entries with each interval raised by x. All being raised alike, they stay in order.
+
+    What is raised out of an interval's bounds stays as five numbers that no note sounds.
+    """
+    return [(begin, length, upon(x, interval)) for begin, length, interval in entries]
 
 
 def write_score(entries):

@@ -44,6 +44,13 @@ def equal_frets(count):
 
 FULL_LUTE = instrument(equal_frets(15), ["2^2", "3", "5", "7", "2", "1"], ["2^-1"] * 8)
 
+# Intervals that take the longest to compare.
+GREAT_POWERS = instrument(
+    [f"2^{k}/23" for k in range(1, 16)],
+    ["2^-83/23 3^97/23 5^-89/23 7^79/23", "2^84/23 3^-97/23 5^89/23 7^-79/23", "3^95/23 5^-94/23 7^91/23",
+     "3^-95/23 5^94/23 7^-91/23", "2^-82/23 3^96/23 5^88/23 7^-78/23", "2^82/23 3^96/23 5^-88/23 7^-78/23"],
+    ["2^97/24", "3^-95/22", "5^89/21", "7^-83/20", "2^79/19", "3^61/17", "5^-97/13", "7^97/11"])
+
 
 def french_stops(stops):
     neck = "".join("abcdefghiklmnopq"[stops[c]] if c in stops else "." for c in range(1, 7))

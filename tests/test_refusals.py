@@ -1,3 +1,4 @@
+import itertools
 import unittest
 
 from lutesounds import desk
@@ -37,7 +38,8 @@ class TooLong(unittest.TestCase):
                 self.assertEqual(desk.score(ring, i, t), [-2])
 
     def test_just_not_too_long_of_span_and_score(self):
-        for i, t, answer in ((LONG_I[:-1], GOOD_T, [-6]), (GOOD_I, LONG_T[:-1], [-8]), (LONG_I[:-1], LONG_T[:-1], [-6])):
+        for i, t, answer in ((LONG_I[:-1], GOOD_T, [-6]), (GOOD_I, LONG_T[:-1], [-8]),
+                             (LONG_I[:-1], LONG_T[:-1], [-6])):
             self.assertEqual(desk.span(i, t), answer)
             for ring in range(4):
                 self.assertEqual(desk.score(ring, i, t), answer)
@@ -194,6 +196,61 @@ class InTheirOrderOfSpanAndScore(unittest.TestCase):
         self.assertEqual(desk.span(PAIR_I, PAIR_T), [0, 1])
         for ring in range(3):
             self.assertEqual(desk.score(ring, GOOD_I, GOOD_T), [7] + as_bytes("0 16 1\n"))
+
+
+class InTheirOrderOfSame(unittest.TestCase):
+    def test_each_refusal_alone(self):
+        for ring in range(3):
+            for i, t, j, u, x, answer in (
+                    (LONG_I, GOOD_T, GOOD_I, GOOD_T, UNISON, -2), (GOOD_I, LONG_T, GOOD_I, GOOD_T, UNISON, -2),
+                    (GOOD_I, GOOD_T, LONG_I, GOOD_T, UNISON, -2), (GOOD_I, GOOD_T, GOOD_I, LONG_T, UNISON, -2),
+                    (LONG_I[:-1], GOOD_T, GOOD_I, GOOD_T, UNISON, -6),
+                    (GOOD_I, LONG_T[:-1], GOOD_I, GOOD_T, UNISON, -8),
+                    (GOOD_I, GOOD_T, LONG_I[:-1], GOOD_T, UNISON, -9),
+                    (GOOD_I, GOOD_T, GOOD_I, LONG_T[:-1], UNISON, -10),
+                    (GOOD_I, GOOD_T, GOOD_I, GOOD_T, NO_INTERVAL, -1), (GOOD_I, GOOD_T, GOOD_I, GOOD_T, [], -1),
+                    (GOOD_I, MISFIT_T, GOOD_I, GOOD_T, UNISON, -3), (GOOD_I, GOOD_T, GOOD_I, MISFIT_T, UNISON, -3),
+                    (GOOD_I, MISFIT_T, GOOD_I, MISFIT_T, UNISON, -3)):
+                self.assertEqual(desk.same(ring, i, t, j, u, x), [answer])
+        for ring in (3, 4, 2147483647):
+            self.assertEqual(desk.same(ring, GOOD_I, GOOD_T, GOOD_I, GOOD_T, UNISON), [-1])
+
+    def test_each_piece_is_fitted_to_its_own_instrument(self):
+        # MISFIT_T needs two courses, which PAIR_I has.
+        for ring in range(3):
+            self.assertEqual(desk.same(ring, PAIR_I, MISFIT_T, GOOD_I, GOOD_T, UNISON), [0])
+            self.assertEqual(desk.same(ring, GOOD_I, GOOD_T, PAIR_I, MISFIT_T, UNISON), [0])
+            self.assertEqual(desk.same(ring, GOOD_I, MISFIT_T, PAIR_I, GOOD_T, UNISON), [-3])
+            self.assertEqual(desk.same(ring, PAIR_I, GOOD_T, GOOD_I, MISFIT_T, UNISON), [-3])
+            # Nor do scores that can't be one settle it ahead of that.
+            self.assertEqual(desk.same(ring, GOOD_I, EMPTY_T, GOOD_I, MISFIT_T, UNISON), [-3])
+            self.assertEqual(desk.same(ring, GOOD_I, MISFIT_T, GOOD_I, EMPTY_T, UNISON), [-3])
+
+    def test_all_together(self):
+        """Each text good, too long, or wrong, in every way: the first refusal by the document's order is told."""
+        instruments = (GOOD_I, LONG_I, BAD_I)
+        pieces = (GOOD_T, LONG_T, BAD_T, MISFIT_T, EMPTY_T)
+        told = {}
+        for i, t, j, u in itertools.product(instruments, pieces, instruments, pieces):
+            for ring, x in ((0, UNISON), (2, [1, 0, 0, 0, 1]), (3, UNISON), (1, NO_INTERVAL), (2147483647, [])):
+                reasons = ((-2, i is LONG_I or j is LONG_I or t is LONG_T or u is LONG_T), (-6, i is BAD_I),
+                           (-8, t is BAD_T), (-9, j is BAD_I), (-10, u is BAD_T),
+                           (-1, ring > 2 or x in (NO_INTERVAL, [])), (-3, t is MISFIT_T or u is MISFIT_T))
+                expected = next((answer for answer, holds in reasons if holds), None)
+                answer = desk.same(ring, i, t, j, u, x)
+                told[expected] = told.get(expected, 0) + 1
+                if expected is None:
+                    self.assertEqual(answer, [int(t is u and (t is EMPTY_T or x == UNISON))])
+                else:
+                    self.assertEqual(answer, [expected])
+        self.assertEqual(set(told), {None, -1, -2, -3, -6, -8, -9, -10})
+
+    def test_greatest_lists(self):
+        self.assertEqual(desk.same(9, [0] * 4200, [0] * 66000, [0] * 4200, [0] * 66000, [0] * 8), [-2])
+        self.assertEqual(desk.same(9, [255] * 4096, [255] * 65536, [255] * 4096, [255] * 65536, [0] * 8), [-6])
+        self.assertEqual(desk.same(9, [], [], [], [], []), [-6])
+        self.assertEqual(desk.same(9, GOOD_I, GOOD_T, [], [], []), [-9])
+        self.assertEqual(desk.same(9, GOOD_I, GOOD_T, GOOD_I, [], []), [-10])
 
 
 class NothingKept(unittest.TestCase):

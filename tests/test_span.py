@@ -2,7 +2,7 @@ import time
 import unittest
 
 from lutesounds import desk
-from tests.helper import BAR, FULL_LUTE, KINDS, as_bytes, equal_frets, instrument, piece
+from tests.helper import BAR, FULL_LUTE, GREAT_POWERS, KINDS, as_bytes, equal_frets, instrument, piece
 
 # Courses 1 to 3: an octave, a fifth, the unison; basses 4 and 5: the unison, an octave below.
 LUTE = instrument(equal_frets(12), ["2", "2^-1 3", "1"], ["1", "2^-1"])
@@ -111,17 +111,11 @@ class InGoodTime(unittest.TestCase):
             self.assertEqual(answer, [0, 14 * 3 + 13])
 
     def test_intervals_of_great_powers(self):
-        frets = ["2^1/23", "2^2/23", "2^3/23", "2^4/23", "2^5/23", "2^6/23", "2^7/23", "2^8/23", "2^9/23", "2^10/23",
-                 "2^11/23", "2^12/23", "2^13/23", "2^14/23", "2^15/23"]
-        courses = ["2^-83/23 3^97/23 5^-89/23 7^79/23", "2^84/23 3^-97/23 5^89/23 7^-79/23", "3^95/23 5^-94/23 7^91/23",
-                   "3^-95/23 5^94/23 7^-91/23", "2^-82/23 3^96/23 5^88/23 7^-78/23", "2^82/23 3^96/23 5^-88/23 7^-78/23"]
-        basses = ["2^97/24", "3^-95/22", "5^89/21", "7^-83/20", "2^79/19", "3^61/17", "5^-97/13", "7^97/11"]
-        lute = instrument(frets, courses, basses)
         lines = [(96, {c: (c * k) % 16 if c < 7 else 0 for c in range(1, 15)}) for k in range(512)]
         start = time.process_time()
-        answer = span(lines, "german", lute)
+        answer = span(lines, "german", GREAT_POWERS)
         self.assertLess(time.process_time() - start, 5)
-        i = as_bytes(lute)
+        i = as_bytes(GREAT_POWERS)
         t = as_bytes(piece("german", lines))
         self.assertEqual(desk.note(0, answer[0], i, t)[3:5], [13, 0])
         self.assertEqual(desk.note(0, answer[1], i, t)[3:5], [14, 0])
